@@ -1,0 +1,1 @@
+"""Everypiece: all pieces of texts, kept while the texts are edited."""

@@ -1,0 +1,157 @@
+"""What several tests need: odd things, libraries, and a plain model of edits."""
+
+import random
+from itertools import product
+
+from everypiece.errors import BadEdits, NoWord, PieceError
+from everypiece.libraries import Library
+
+WORDS = ("put", "cut", "change", "come", "go", "split", "join", "move")
+
+
+def nested(deep, kind):
+    """A list, tuple or dict nested so deep."""
+    thing = kind()
+    for _ in range(deep - 1):
+        thing = {0: thing} if kind is dict else kind([thing])
+    return thing
+
+
+def odd_things():
+    """New things of many kinds, none of which is equal to a place or an edit of any library."""
+    return [
+        None, True, False, Ellipsis, NotImplemented,
+        0, 1, -1, 7, 10 ** 20 - 1, 1 - 10 ** 20,
+        "", "a", " ", "~", "\n", "a\n", "put", "go", "a" * 20000,
+        b"", b"a", bytearray(b"a"), memoryview(b"a"),
+        (), (None,), ("a",), (True, True), (0,), (0, 0, 0), ("0", "0"), (-1, 0), (0, -1), ("go", ()),
+        [], [0, 0], ["go"], ["put", 0, 0, "a"], {}, {"a": 1}, {0: [0]}, range(2), slice(0, 2),
+        int, str, tuple, type(None), len, print, lambda: 0, object(), property(), iter([0, 0]), zip([0], [0]),
+        (0 for _ in ()), {}.items(), {}.keys(), Exception("a"), NoWord(), BadEdits(0), NoWord, Library,
+        Library(()), Library(("ab", "")), (Library(("a",)), 0), (0, Library(("a",))), [Library(())],
+        nested(40, tuple), nested(40, list), nested(40, dict), tuple([0] * 19999), list(range(19999)),
+        (nested(39, list), 0), (0, nested(39, tuple)), (10 ** 19, 0), (0, 10 ** 19),
+    ]
+
+
+def libraries():
+    """Libraries of many forms, empty and full ones among them."""
+    return [Library(texts) for texts in (
+        (), ("",), ("a",), ("ab",), ("abab",), ("", ""), ("a", ""), ("", "ab"), ("ab", "ab"), ("abc", "de", "f"),
+        ("aa", "", "aab"), ("", "", ""), ("ab", "", "c", "", "dd", "", "e", ""), ("", "", "", "", "", "", "", "xyz"),
+        ("a", "b", "c", "d", "e", "f", "g"), (" ~", "~ ", "[?]\\"),
+        ("ab" * 1000,), ("a" * 1999,), ("a" * 2000, ""), ("ab" * 500, "ba" * 500),
+        ("c" * 250,) * 8, ("d" * 1993, "", "e", "", "fgh", "", "ij", "k"), ("",) * 8,
+    )]
+
+
+def small_libraries():
+    """Those of at most 3 signs a text and 3 texts, so that all edits of them can be tried."""
+    return [library for library in libraries() if len(library.texts) <= 3 and max(map(len, library.texts), default=0) < 5]
+
+
+def labelled(library):
+    """Lists of pairs (sign, place), so that each sign can be told from all others."""
+    return [[(sign, (text, at)) for at, sign in enumerate(signs)] for text, signs in enumerate(library.texts)]
+
+
+def new_signs(signs):
+    return [(sign, None) for sign in signs]
+
+
+def plain_edit(library, edit):
+    """The labelled lists behind an edit of the right form, None if the library has no such edit.
+
+    Every sign is handled by itself, by list.insert and list.pop, so that nothing
+    here is made as the package makes it.
+    """
+    rows = labelled(library)
+    word, parts = edit[0], edit[1:]
+    try:
+        if word == "put":
+            insert_all(rows, parts[0], parts[1], new_signs(parts[2]))
+        elif word == "cut":
+            take_all(rows, *parts)
+        elif word == "change":
+            take_all(rows, parts[0], parts[1], len(parts[2]))
+            insert_all(rows, parts[0], parts[1], new_signs(parts[2]))
+        elif word == "come":
+            rows.append(new_signs(parts[0]))
+        elif word == "go":
+            if rows.pop():
+                return None
+        elif word == "split":
+            taken = take_all(rows, parts[0], parts[1], len(rows[parts[0]]) - parts[1])
+            rows.append(taken)
+        elif word == "join":
+            if parts[0] == parts[1]:
+                return None
+            taken = take_all(rows, parts[1], 0, len(rows[parts[1]]))
+            insert_all(rows, parts[0], len(rows[parts[0]]), taken)
+        elif word == "move":
+            insert_all(rows, parts[3], parts[4], take_all(rows, *parts[:3]))
+    except IndexError:
+        return None
+    return rows if len(rows) <= 8 and sum(map(len, rows)) <= 2000 else None
+
+
+def take_all(rows, text, at, many):
+    if many < 0:
+        raise IndexError
+    return [rows[text].pop(at) for _ in range(many)]
+
+
+def insert_all(rows, text, at, signs):
+    if at > len(rows[text]):
+        raise IndexError
+    for sign in reversed(signs):
+        rows[text].insert(at, sign)
+
+
+def texts_of(rows):
+    return tuple("".join(sign for sign, _ in row) for row in rows)
+
+
+def well_formed(numbers, words):
+    """All tuples that have the form of an edit, with these numbers and words as parts."""
+    many = [number for number in numbers if number > 0]
+    kinds = {
+        "put": (numbers, numbers, words), "cut": (numbers, numbers, many), "change": (numbers, numbers, words),
+        "come": (list(words) + [""],), "go": (), "split": (numbers, numbers), "join": (numbers, numbers),
+        "move": (numbers, numbers, many, numbers, numbers),
+    }
+    return [(word,) + parts for word in WORDS for parts in product(*kinds[word])]
+
+
+def edits_of(library):
+    """Edits of each kind, at the bounds and between, that a library has."""
+    texts = library.texts
+    room = 2000 - sum(map(len, texts))
+    found = [("go",)] + [("come", signs) for signs in ("", "x", "yx", "z" * room)]
+    for text, signs in enumerate(texts):
+        long = len(signs)
+        bounds = sorted({0, 1, long // 2, max(long - 1, 0), long})
+        for at in bounds:
+            found += [("put", text, at, new) for new in ("x", "xy", signs[:3] or "q", "z" * room) if new]
+            found += [("change", text, at, new) for new in ("x", signs[at:at + 1], signs[at:], "z" * (long - at)) if new]
+            found.append(("split", text, at))
+            for many in sorted({1, 2, long - at}):
+                found.append(("cut", text, at, many))
+                found += [("move", text, at, many, other, place) for other, long_other in enumerate(map(len, texts))
+                          for place in sorted({0, 1, long_other // 2, max(long_other - many, 0), long_other})]
+        found += [("join", text, other) for other in range(len(texts))]
+    return [edit for edit in dict.fromkeys(found) if all(part != 0 for part in edit[3:4])
+            and plain_edit(library, edit) is not None]
+
+
+def some_edits_of(library, most=150):
+    """At most so many of these, always the same ones."""
+    found = edits_of(library)
+    return found if len(found) <= most else random.Random(len(found)).sample(found, most)
+
+
+def error_of(test, function, *args):
+    """The error that a call raises; the test fails if it raises none of the package's."""
+    with test.assertRaises(PieceError) as caught:
+        function(*args)
+    return caught.exception

@@ -1,0 +1,102 @@
+"""0.2 to 0.5: what holds for all calls that have landed."""
+
+import copy
+import unittest
+
+from everypiece.edits import edited, is_edit, leading, leading_back, led, place_ahead, place_behind
+from everypiece.errors import BadEdits, BadLibrary, NoEdit, NoPlace, NoWord
+from everypiece.libraries import Library, size, stands, turned_about
+from helper import libraries, nested, odd_things, some_edits_of
+
+LIBRARY = Library(("abab", "", "ba"))
+TEXTS = LIBRARY.texts
+
+# Calls with one odd argument, and the errors that they may raise.
+CALLS = (
+    (Library, BadLibrary),
+    (lambda thing: Library((thing,)), BadLibrary),
+    (lambda thing: stands(LIBRARY, thing, (0, 0)), NoWord),
+    (lambda thing: stands(LIBRARY, "a", thing), NoPlace),
+    (lambda thing: stands(LIBRARY, "a", (thing, 0)), NoPlace),
+    (lambda thing: stands(LIBRARY, "a", (0, thing)), NoPlace),
+    (lambda thing: is_edit(LIBRARY, thing), ()),
+    (lambda thing: edited(LIBRARY, thing), NoEdit),
+    (lambda thing: led(LIBRARY, thing), BadEdits),
+    (lambda thing: led(LIBRARY, [thing]), BadEdits),
+    (lambda thing: leading_back(LIBRARY, thing), NoEdit),
+    (lambda thing: place_behind(LIBRARY, thing, (0, 0)), NoEdit),
+    (lambda thing: place_ahead(LIBRARY, thing, (0, 0)), NoEdit),
+    (lambda thing: place_behind(LIBRARY, ("split", 0, 1), thing), NoPlace),
+    (lambda thing: place_ahead(LIBRARY, ("split", 0, 1), thing), NoPlace),
+) + tuple(
+    (lambda thing, form=form, index=index: edited(LIBRARY, form[:index] + (thing,) + form[index + 1:]), NoEdit)
+    for form in (("put", 0, 0, "x"), ("cut", 0, 0, 1), ("change", 0, 0, "x"), ("come", "x"), ("go",), ("split", 0, 1),
+                 ("join", 0, 2), ("move", 0, 0, 1, 2, 0))
+    for index in range(len(form))
+)
+
+
+def outcome(call, errors, thing):
+    """What a call returns or raises; any error but those that it may raise goes on."""
+    try:
+        result = call(thing)
+    except errors as error:
+        return (type(error), vars(error))
+    return result
+
+
+class OddThingsTest(unittest.TestCase):
+
+    def test_no_other_error_is_raised_because_of_what_a_thing_is(self):
+        for call, errors in CALLS:
+            for thing in odd_things():
+                outcome(call, errors, thing)
+                self.assertEqual(LIBRARY.texts, TEXTS)
+
+    def test_equal_calls_give_equal_answers(self):
+        for call, errors in CALLS:
+            for thing in odd_things():
+                self.assertEqual(outcome(call, errors, thing), outcome(call, errors, thing))
+
+    def test_arguments_are_not_changed(self):
+        for call, errors in CALLS:
+            for thing in ([], [0, 0], ["go"], [("come", ""), ["go"]], {"a": [1]}, ("put", [0], 0, "x"), ([0], {1: 2}),
+                          nested(40, list), list(range(19999))):
+                before = copy.deepcopy(thing)
+                outcome(call, errors, thing)
+                self.assertEqual(thing, before)
+
+    def test_iterators_are_not_used_up(self):
+        for call, errors in CALLS:
+            thing = iter([0, 1])
+            outcome(call, errors, thing)
+            self.assertEqual(list(thing), [0, 1])
+
+    def test_things_may_be_nested_deep(self):
+        for call, errors in CALLS:
+            for kind in (list, tuple, dict):
+                outcome(call, errors, nested(40, kind))
+
+    def test_judging_functions_return_flags(self):
+        for thing in odd_things() + [("come", "")]:
+            self.assertIs(type(is_edit(LIBRARY, thing)), bool)
+        self.assertIs(type(stands(LIBRARY, "a", (0, 0))), bool)
+
+
+class StayTest(unittest.TestCase):
+
+    def test_libraries_stay_and_equal_calls_give_equal_answers(self):
+        for library in libraries():
+            texts = library.texts
+            for edit in some_edits_of(library, 30):
+                self.assertEqual(edited(library, edit), edited(library, edit))
+                self.assertEqual(leading_back(library, edit), leading_back(library, edit))
+                self.assertEqual(library.texts, texts)
+            self.assertEqual(size(library), size(library))
+            self.assertEqual(turned_about(library), turned_about(library))
+            self.assertEqual(leading(library, LIBRARY), leading(library, LIBRARY))
+            self.assertEqual(library.texts, texts)
+
+
+if __name__ == "__main__":
+    unittest.main()

@@ -1,0 +1,55 @@
+"""Each name of the interface that has landed stands, under its own def or class, in its own file."""
+
+import ast
+import importlib
+import inspect
+import os
+import unittest
+
+PACKAGE = os.path.join(os.path.dirname(os.path.dirname(os.path.abspath(__file__))), "everypiece")
+
+# For each file its functions, with how many arguments they take, and its classes, with their methods.
+FUNCTIONS = {
+    "libraries": {"size": 1, "turned_about": 1, "stands": 3},
+    "edits": {"is_edit": 2, "edited": 2, "led": 2, "leading_back": 2, "leading": 2, "place_behind": 3,
+              "place_ahead": 3},
+}
+CLASSES = {
+    "errors": {
+        "PieceError": (), "BadLibrary": (), "NoWord": (), "NoPlace": (), "NoEdit": (), "BadEdits": (), "NoNames": (),
+        "NoText": (), "NoLevel": (), "NoNumber": (), "NothingDone": (), "NoRow": (), "NoSign": (), "NoClass": (),
+        "BadWeb": (), "NoMachine": (), "TooMany": (), "NoState": (), "NoSigns": (), "NoPhrases": (), "NoPattern": (),
+        "BadPattern": (), "NoGaps": (), "NoHoles": (), "NoLine": (), "NoCut": (), "NoLines": (), "NoDisk": (),
+        "NoAsk": (), "NoName": (),
+    },
+    "libraries": {"Library": ("__init__", "__eq__")},
+}
+
+
+def defined_in(name):
+    with open(os.path.join(PACKAGE, name + ".py"), encoding="utf-8") as file:
+        return {node.name: node for node in ast.parse(file.read()).body
+                if isinstance(node, (ast.FunctionDef, ast.ClassDef))}
+
+
+class InterfaceTest(unittest.TestCase):
+
+    def test_functions(self):
+        for file, functions in FUNCTIONS.items():
+            for name, many in functions.items():
+                self.assertIsInstance(defined_in(file)[name], ast.FunctionDef)
+                function = getattr(importlib.import_module("everypiece." + file), name)
+                self.assertEqual(len(inspect.signature(function).parameters), many)
+
+    def test_classes(self):
+        for file, classes in CLASSES.items():
+            for name, methods in classes.items():
+                node = defined_in(file)[name]
+                self.assertIsInstance(node, ast.ClassDef)
+                own = [part.name for part in node.body if isinstance(part, ast.FunctionDef)]
+                for method in methods:
+                    self.assertIn(method, own)
+
+
+if __name__ == "__main__":
+    unittest.main()
