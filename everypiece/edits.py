@@ -2,7 +2,7 @@
 
 from everypiece.errors import BadEdits, BadLibrary, NoEdit, NoPlace
 from everypiece.kinds import is_number, is_signs, is_word
-from everypiece.libraries import Library, is_place
+from everypiece.libraries import Library, all_places, is_place
 
 # The kinds of the parts that stand behind the word of an edit.
 FORMS = {
@@ -258,6 +258,19 @@ def place_behind(library, edit, place):
     if not is_place(library, place):
         raise NoPlace()
     return _taken_on(_steps(library.texts, edit), place)
+
+
+def all_taken(library, edit):
+    """A dict from the place of each sign that an edit does not take out to where it takes it."""
+    if not is_edit(library, edit):
+        raise NoEdit()
+    steps = _steps(library.texts, edit)
+    taken = {}
+    for place in all_places(library):
+        then = _taken_on(steps, place)
+        if then is not None:
+            taken[place] = then
+    return taken
 
 
 def place_ahead(library, edit, place):

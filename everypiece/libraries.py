@@ -34,6 +34,11 @@ def turned_about(library):
     return Library(tuple([text[::-1] for text in library.texts]))
 
 
+def is_text(thing):
+    """Whether a thing is a string of at most 2000 signs."""
+    return is_signs(thing) and len(thing) <= MOST_SIGNS
+
+
 def is_place(library, thing):
     """Whether a thing is a pair of the number of a text and a number below its length."""
     if not isinstance(thing, tuple) or len(thing) != 2:
@@ -42,6 +47,11 @@ def is_place(library, thing):
     if not is_number(text) or not is_number(at):
         return False
     return text < len(library.texts) and at < len(library.texts[text])
+
+
+def all_places(library):
+    """The ascending list of all places of a library."""
+    return [(number, at) for number, text in enumerate(library.texts) for at in range(len(text))]
 
 
 def stands(library, word, place):

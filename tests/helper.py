@@ -5,6 +5,7 @@ from itertools import product
 
 from everypiece.errors import BadEdits, NoWord, PieceError
 from everypiece.libraries import Library
+from everypiece.shelves import Shelf
 
 WORDS = ("put", "cut", "change", "come", "go", "split", "join", "move")
 
@@ -29,6 +30,7 @@ def odd_things():
         int, str, tuple, type(None), len, print, lambda: 0, object(), property(), iter([0, 0]), zip([0], [0]),
         (0 for _ in ()), {}.items(), {}.keys(), Exception("a"), NoWord(), BadEdits(0), NoWord, Library,
         Library(()), Library(("ab", "")), (Library(("a",)), 0), (0, Library(("a",))), [Library(())],
+        Shelf(Library(("ab",))), (Shelf(Library(())), 0), Shelf,
         nested(40, tuple), nested(40, list), nested(40, dict), tuple([0] * 19999), list(range(19999)),
         (nested(39, list), 0), (0, nested(39, tuple)), (10 ** 19, 0), (0, 10 ** 19),
     ]
@@ -48,6 +50,105 @@ def libraries():
 def small_libraries():
     """Those of at most 3 signs a text and 3 texts, so that all edits of them can be tried."""
     return [library for library in libraries() if len(library.texts) <= 3 and max(map(len, library.texts), default=0) < 5]
+
+
+def random_text(chance, most):
+    """A text of at most so many signs: of few signs or of many, with periods, stretches of one sign, or none."""
+    long = chance.choice([chance.randint(0, min(most, 12)), chance.randint(0, most)])
+    lot = chance.sample([chr(number) for number in range(32, 127)], chance.choice([1, 2, 2, 3, 5, 95]))
+    kind = chance.randrange(4)
+    if kind == 0:
+        return "".join(chance.choice(lot) for _ in range(long))
+    if kind == 1:
+        word = "".join(chance.choice(lot) for _ in range(chance.randint(1, 9)))
+        return (word * (long // len(word) + 1))[:long]
+    if kind == 2:
+        return "".join(chance.choice(lot) * chance.randint(1, 4) for _ in range(long))[:long]
+    one, other = lot[0], lot[0] + lot[-1]
+    while len(other) < long:
+        one, other = other, other + one
+    return other[:long]
+
+
+def random_library(chance, most):
+    """A library of at most 8 texts, of at most so many signs in all."""
+    texts = [random_text(chance, most) for _ in range(chance.choice([0, 1, 1, 2, 3, 5, 8]))]
+    room = most
+    for number, text in enumerate(texts):
+        texts[number] = text[:room]
+        room -= len(texts[number])
+    return Library(tuple(texts))
+
+
+def random_edit(chance, library):
+    """An edit of any kind that a library has."""
+    texts = library.texts
+    while True:
+        word = chance.choice(WORDS)
+        text, other = (chance.randrange(len(texts) or 1) for _ in range(2))
+        signs = texts[text] if texts else ""
+        at, place = (chance.randint(0, len(signs)) for _ in range(2))
+        many = chance.choice([1, 1, 2, max(1, len(signs) // 2), max(1, len(signs) - at)])
+        new = chance.choice([signs[place:place + 3], random_text(chance, 9), "a", "ab"])
+        parts = {"put": (text, at, new), "cut": (text, at, many), "change": (text, at, new), "come": (new,), "go": (),
+                 "split": (text, at), "join": (text, other), "move": (text, at, many, other, place)}
+        edit = (word,) + parts[word]
+        if (new or word not in ("put", "change")) and plain_edit(library, edit) is not None:
+            return edit
+
+
+def place_list(library):
+    return [(text, at) for text, signs in enumerate(library.texts) for at in range(len(signs))]
+
+
+def signs_from(library, place):
+    """The ending at a place."""
+    return library.texts[place[0]][place[1]:]
+
+
+def plain_order(library):
+    """All places in the order of their endings, as Python sorts them."""
+    return sorted(place_list(library), key=lambda place: (signs_from(library, place), place))
+
+
+def plain_common(one, other):
+    """How many signs two strings have in common at the front."""
+    unlike = (number for number, pair in enumerate(zip(one, other)) if pair[0] != pair[1])
+    return next(unlike, min(len(one), len(other)))
+
+
+def quick_common(one, other):
+    """The same, by doubling: for the endings of full libraries."""
+    many, step = 0, 1
+    while step:
+        if step <= min(len(one), len(other)) - many and one[many:many + step] == other[many:many + step]:
+            many, step = many + step, step * 2
+        else:
+            step //= 2
+    return many
+
+
+def plain_lengths(library):
+    """The common lengths of neighbours in the order, 0 for the first."""
+    order = plain_order(library)
+    return [0][:len(order)] + [quick_common(signs_from(library, one), signs_from(library, other))
+                               for one, other in zip(order, order[1:])]
+
+
+def plain_span(library, word):
+    """The numbers, in Python's own order, of the endings that begin with a word."""
+    order = [signs_from(library, place) for place in plain_order(library)]
+    found = [number for number, signs in enumerate(order) if signs.startswith(word)]
+    less = len([signs for signs in order if signs < word])
+    return (found[0], found[-1] + 1) if found else (less, less)
+
+
+def plain_taken(library, edit):
+    """The library behind an edit, and a dict of where each sign is taken, by the plain model."""
+    rows = plain_edit(library, edit)
+    taken = {label[1]: (text, at) for text, row in enumerate(rows) for at, label in enumerate(row)
+             if label[1] is not None}
+    return Library(texts_of(rows)), taken
 
 
 def labelled(library):

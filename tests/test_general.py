@@ -3,9 +3,15 @@
 import copy
 import unittest
 
+from everypiece.asks import (all_pieces, count, first_place, gap, is_gap, last_place, many_long, next_place, number_of,
+                             piece_numbered, places, span, texts_with)
+from everypiece.blocks import block_lot, blocks, coins, groups, levels, new_blocks
 from everypiece.edits import edited, is_edit, leading, leading_back, led, place_ahead, place_behind
-from everypiece.errors import BadEdits, BadLibrary, NoEdit, NoPlace, NoWord
+from everypiece.endings import (common, ending, endings, exchanged, fewest_moves, is_order, kept_for, lengths,
+                                order_fault, rank, staying)
+from everypiece.errors import BadEdits, BadLibrary, NoEdit, NoLevel, NoNames, NoNumber, NoPlace, NoText, NoWord
 from everypiece.libraries import Library, size, stands, turned_about
+from everypiece.shelves import Shelf
 from helper import libraries, nested, odd_things, some_edits_of
 
 LIBRARY = Library(("abab", "", "ba"))
@@ -33,6 +39,46 @@ CALLS = (
     for form in (("put", 0, 0, "x"), ("cut", 0, 0, 1), ("change", 0, 0, "x"), ("come", "x"), ("go",), ("split", 0, 1),
                  ("join", 0, 2), ("move", 0, 0, 1, 2, 0))
     for index in range(len(form))
+) + (
+    (coins, NoNames),
+    (lambda thing: coins((thing,)), NoNames),
+    (lambda thing: coins(("a", thing)), NoNames),
+    (groups, NoNames),
+    (lambda thing: groups(("a", thing)), NoNames),
+    (levels, NoText),
+    (block_lot, NoText),
+    (lambda thing: blocks(thing, 0), NoText),
+    (lambda thing: blocks("abab", thing), NoLevel),
+    (lambda thing: new_blocks(thing, 0, 0, "a"), NoText),
+    (lambda thing: new_blocks("abab", thing, 0, "a"), NoNumber),
+    (lambda thing: new_blocks("abab", 0, thing, "a"), NoNumber),
+    (lambda thing: new_blocks("abab", 0, 0, thing), NoText),
+    (lambda thing: ending(LIBRARY, thing), NoPlace),
+    (lambda thing: rank(LIBRARY, thing), NoPlace),
+    (lambda thing: common(LIBRARY, thing, (0, 0)), NoPlace),
+    (lambda thing: common(LIBRARY, (0, 0), thing), NoPlace),
+    (lambda thing: order_fault(LIBRARY, thing), ()),
+    (lambda thing: order_fault(LIBRARY, [thing] * 6), ()),
+    (lambda thing: is_order(LIBRARY, thing), ()),
+    (lambda thing: is_order(LIBRARY, endings(LIBRARY)[:5] + [thing]), ()),
+    (lambda thing: kept_for(LIBRARY, thing, (0, 0)), NoEdit),
+    (lambda thing: kept_for(LIBRARY, ("come", "a"), thing), NoPlace),
+    (lambda thing: exchanged(LIBRARY, thing), NoEdit),
+    (lambda thing: staying(LIBRARY, thing), NoEdit),
+    (lambda thing: fewest_moves(LIBRARY, thing), NoEdit),
+    (lambda thing: Shelf(LIBRARY).rank_of(thing), NoPlace),
+    (lambda thing: Shelf(LIBRARY).span_of(thing), NoWord),
+    (lambda thing: Shelf(LIBRARY).do(thing), NoEdit),
+    (lambda thing: next_place(LIBRARY, thing, (0, 0)), NoWord),
+    (lambda thing: next_place(LIBRARY, "a", thing), NoPlace),
+    (lambda thing: is_gap(LIBRARY, thing, None), NoWord),
+    (lambda thing: is_gap(LIBRARY, "aa", thing), ()),
+    (lambda thing: is_gap(LIBRARY, "aa", (thing, thing)), ()),
+    (lambda thing: many_long(LIBRARY, thing), NoNumber),
+    (lambda thing: piece_numbered(LIBRARY, thing), NoNumber),
+) + tuple(
+    (lambda thing, function=function: function(LIBRARY, thing), NoWord)
+    for function in (places, count, first_place, last_place, texts_with, span, gap, number_of)
 )
 
 
@@ -80,6 +126,8 @@ class OddThingsTest(unittest.TestCase):
     def test_judging_functions_return_flags(self):
         for thing in odd_things() + [("come", "")]:
             self.assertIs(type(is_edit(LIBRARY, thing)), bool)
+            self.assertIs(type(is_order(LIBRARY, thing)), bool)
+            self.assertIs(type(is_gap(LIBRARY, "aa", thing)), bool)
         self.assertIs(type(stands(LIBRARY, "a", (0, 0))), bool)
 
 
@@ -91,10 +139,18 @@ class StayTest(unittest.TestCase):
             for edit in some_edits_of(library, 30):
                 self.assertEqual(edited(library, edit), edited(library, edit))
                 self.assertEqual(leading_back(library, edit), leading_back(library, edit))
+                self.assertEqual(staying(library, edit), staying(library, edit))
+                shelf = Shelf(library)
+                shelf.do(edit)
+                self.assertEqual(shelf.library(), edited(library, edit))
                 self.assertEqual(library.texts, texts)
             self.assertEqual(size(library), size(library))
             self.assertEqual(turned_about(library), turned_about(library))
             self.assertEqual(leading(library, LIBRARY), leading(library, LIBRARY))
+            for function in (endings, lengths, all_pieces):
+                self.assertEqual(function(library), function(library))
+            for function in (places, span, gap, number_of):
+                self.assertEqual(function(library, "ab"), function(library, "ab"))
             self.assertEqual(library.texts, texts)
 
 

@@ -13,6 +13,11 @@ FUNCTIONS = {
     "libraries": {"size": 1, "turned_about": 1, "stands": 3},
     "edits": {"is_edit": 2, "edited": 2, "led": 2, "leading_back": 2, "leading": 2, "place_behind": 3,
               "place_ahead": 3},
+    "blocks": {"coins": 1, "groups": 1, "levels": 1, "blocks": 2, "block_lot": 1, "new_blocks": 4},
+    "endings": {"endings": 1, "ending": 2, "rank": 2, "common": 3, "lengths": 1, "order_fault": 2, "is_order": 2,
+                "kept_for": 3, "exchanged": 2, "staying": 2, "fewest_moves": 2},
+    "asks": {"places": 2, "count": 2, "first_place": 2, "last_place": 2, "next_place": 3, "texts_with": 2, "span": 2,
+             "gap": 2, "is_gap": 3, "all_pieces": 1, "many_long": 2, "piece_numbered": 2, "number_of": 2},
 }
 CLASSES = {
     "errors": {
@@ -23,6 +28,8 @@ CLASSES = {
         "NoAsk": (), "NoName": (),
     },
     "libraries": {"Library": ("__init__", "__eq__")},
+    "shelves": {"Shelf": ("__init__", "library", "order", "common_lengths", "rank_of", "span_of", "do", "back",
+                          "again", "depth", "copy")},
 }
 
 
