@@ -15,3 +15,13 @@ def is_signs(thing):
 def is_word(thing):
     """Whether a thing is a string of one sign or more."""
     return is_signs(thing) and len(thing) > 0
+
+
+def is_sign(thing):
+    """Whether a thing is a word of one sign."""
+    return is_signs(thing) and len(thing) == 1
+
+
+def is_tuple(thing, many):
+    """Whether a thing is a tuple of so many."""
+    return isinstance(thing, tuple) and len(thing) == many

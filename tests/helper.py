@@ -4,8 +4,10 @@ import random
 from itertools import product
 
 from everypiece.errors import BadEdits, NoWord, PieceError
+from everypiece.growers import Grower
 from everypiece.libraries import Library
 from everypiece.shelves import Shelf
+from everypiece.webs import Web
 
 WORDS = ("put", "cut", "change", "come", "go", "split", "join", "move")
 
@@ -30,7 +32,8 @@ def odd_things():
         int, str, tuple, type(None), len, print, lambda: 0, object(), property(), iter([0, 0]), zip([0], [0]),
         (0 for _ in ()), {}.items(), {}.keys(), Exception("a"), NoWord(), BadEdits(0), NoWord, Library,
         Library(()), Library(("ab", "")), (Library(("a",)), 0), (0, Library(("a",))), [Library(())],
-        Shelf(Library(("ab",))), (Shelf(Library(())), 0), Shelf,
+        Shelf(Library(("ab",))), (Shelf(Library(())), 0), Shelf, Web(()), Web((("a", 1, (0, 0), (), ()),)), Web,
+        (Web(()), 0), (0, Web(())), Grower(), (Grower(),), Grower, ("a", 1, (0, 0), (), ()), (("a", Web(())),),
         nested(40, tuple), nested(40, list), nested(40, dict), tuple([0] * 19999), list(range(19999)),
         (nested(39, list), 0), (0, nested(39, tuple)), (10 ** 19, 0), (0, 10 ** 19),
     ]
@@ -104,6 +107,63 @@ def place_list(library):
 def signs_from(library, place):
     """The ending at a place."""
     return library.texts[place[0]][place[1]:]
+
+
+def pieces_of(library):
+    """All unlike pieces, ascending, taken one by one."""
+    return sorted({text[at:behind] for text in library.texts for at in range(len(text))
+                   for behind in range(at + 1, len(text) + 1)})
+
+
+def places_of(library, word):
+    """The ascending list of the places at which a word stands."""
+    return [(text, at) for text, signs in enumerate(library.texts) for at in range(len(signs))
+            if signs.startswith(word, at)]
+
+
+def neighbours(library, word, places):
+    """The lists of the signs ahead of these places of a word, and behind it; "" where there is none."""
+    texts = library.texts
+    return ([texts[text][at - 1] if at else "" for text, at in places],
+            [texts[text][at + len(word):at + len(word) + 1] for text, at in places])
+
+
+def plain_grown(library, word, ahead_first=True):
+    """A piece, grown sign by sign as long as one and the same one stands at all places."""
+    places = places_of(library, word)
+    while True:
+        aheads, behinds = neighbours(library, word, places)
+        can = [side for side, signs in (("ahead", aheads), ("behind", behinds)) if signs[0] and len(set(signs)) == 1]
+        if not can:
+            return word
+        if ("ahead" in can) if ahead_first else ("behind" not in can):
+            word, places = aheads[0] + word, [(text, at - 1) for text, at in places]
+        else:
+            word = word + behinds[0]
+
+
+def by_length(words):
+    """Words in the order of classes."""
+    return sorted(words, key=lambda word: (len(word), word))
+
+
+def plain_classes(library):
+    """A dict from the longest piece of each class, in their order, to the ascending list of its pieces."""
+    found = {}
+    for piece in pieces_of(library):
+        found.setdefault(plain_grown(library, piece), []).append(piece)
+    return {longest: found[longest] for longest in by_length(found)}
+
+
+def tiny_libraries():
+    """All of one text, and of two, with few signs a and b, and some drawn ones."""
+    chance = random.Random(5)
+    words = [""] + ["".join(signs) for many in range(1, 7) for signs in product("ab", repeat=many)]
+    found = [()] + [(word,) for word in words if len(word) < 6]
+    found += [(one, other) for one in words for other in words if len(one + other) < 4]
+    found += [tuple(chance.choice(words) for _ in range(chance.choice([2, 3, 4, 8]))) for _ in range(60)]
+    found += [("ab" * 6,), ("a" * 12,), ("abcabcab",), ("abaababaabaab",), ("abcacbcab", "cab"), ("xyx", "xyx", "y")]
+    return [Library(texts) for texts in found] + [random_library(chance, 14) for _ in range(90)]
 
 
 def plain_order(library):

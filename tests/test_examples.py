@@ -4,9 +4,13 @@ import unittest
 
 from everypiece.asks import all_pieces, gap, piece_numbered, span
 from everypiece.blocks import coins, groups, levels
+from everypiece.classes import class_of, classes, grown, least_pieces
 from everypiece.edits import edited, leading_back, place_behind
 from everypiece.endings import endings, lengths
 from everypiece.libraries import Library
+from everypiece.repeats import alone, lacking, longest_repeat
+from everypiece.rows import row_ahead
+from everypiece.runs import fewest_phrases, periods, runs
 
 
 class ExamplesTest(unittest.TestCase):
@@ -35,6 +39,24 @@ class ExamplesTest(unittest.TestCase):
         self.assertEqual(gap(self.lib, "aa"), (None, (0, 2)))
         self.assertEqual(all_pieces(self.lib), 7)
         self.assertEqual(piece_numbered(self.lib, 3), "abab")
+
+    def test_e04(self):
+        self.assertEqual(row_ahead(self.lib), ("b", "b", "", "a", "a"))
+
+    def test_e05(self):
+        self.assertEqual(classes(self.lib), [("ab", 2), ("abab", 1)])
+        self.assertEqual(class_of(self.lib, "b"), (0, 1))
+        self.assertEqual(grown(self.lib, "ba"), "abab")
+        self.assertEqual(least_pieces(self.lib, 0), [(0, 1), (1, 2)])
+        self.assertEqual(least_pieces(self.lib, 1), [(1, 3)])
+
+    def test_e06(self):
+        self.assertEqual(longest_repeat(self.lib), "ab")
+        self.assertEqual(alone(self.lib), ["ba"])
+        self.assertEqual(lacking(self.lib, "ab"), ["aa", "baba", "bb"])
+        self.assertEqual(periods("abab"), (2, 4))
+        self.assertEqual(runs("abab"), [(0, 4, 2)])
+        self.assertEqual(fewest_phrases("abab"), 3)
 
 
 if __name__ == "__main__":

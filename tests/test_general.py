@@ -6,16 +6,28 @@ import unittest
 from everypiece.asks import (all_pieces, count, first_place, gap, is_gap, last_place, many_long, next_place, number_of,
                              piece_numbered, places, span, texts_with)
 from everypiece.blocks import block_lot, blocks, coins, groups, levels, new_blocks
+from everypiece.classes import (class_of, class_stays, classes, down, down_tree, grown, is_longest, least_pieces,
+                                many_pieces, turned_classes, up, up_tree)
 from everypiece.edits import edited, is_edit, leading, leading_back, led, place_ahead, place_behind
 from everypiece.endings import (common, ending, endings, exchanged, fewest_moves, is_order, kept_for, lengths,
                                 order_fault, rank, staying)
-from everypiece.errors import BadEdits, BadLibrary, NoEdit, NoLevel, NoNames, NoNumber, NoPlace, NoText, NoWord
+from everypiece.errors import (BadEdits, BadLibrary, BadWeb, NoClass, NoEdit, NoLevel, NoMachine, NoNames, NoNumber,
+                               NoPhrases, NoPlace, NoRow, NoSign, NoSigns, NoState, NoText, NoWord)
+from everypiece.growers import Grower
 from everypiece.libraries import Library, size, stands, turned_about
+from everypiece.machines import machine_fault, machine_of, tells
+from everypiece.repeats import alone, common_longest, greatest_repeats, lacking, least_alone, longest_repeat
+from everypiece.rows import found_behind, is_row, leads, less_than, many_ahead, row_ahead, told_back
+from everypiece.runs import (borders, fewest_phrases, is_phrasing, is_run, periods, phrasing, runs, told_by)
 from everypiece.shelves import Shelf
+from everypiece.webs import Web, count_by, first_by, is_web, left_ties, read_by, right_ties, texts_by, web_of
 from helper import libraries, nested, odd_things, some_edits_of
 
 LIBRARY = Library(("abab", "", "ba"))
 TEXTS = LIBRARY.texts
+ROW = row_ahead(LIBRARY)
+WEB = web_of(LIBRARY)
+MACHINE = machine_of(LIBRARY)
 
 # Calls with one odd argument, and the errors that they may raise.
 CALLS = (
@@ -78,8 +90,58 @@ CALLS = (
     (lambda thing: piece_numbered(LIBRARY, thing), NoNumber),
 ) + tuple(
     (lambda thing, function=function: function(LIBRARY, thing), NoWord)
-    for function in (places, count, first_place, last_place, texts_with, span, gap, number_of)
-)
+    for function in (places, count, first_place, last_place, texts_with, span, gap, number_of, class_of, grown)
+) + (
+    (is_row, ()),
+    (lambda thing: is_row(ROW[:3] + (thing,) + ROW[4:]), ()),
+    (told_back, NoRow),
+    (lambda thing: told_back((thing,) + ROW[1:]), NoRow),
+    (leads, NoRow),
+    (lambda thing: many_ahead(thing, "a", 0), NoRow),
+    (lambda thing: many_ahead(ROW, thing, 0), NoSign),
+    (lambda thing: many_ahead(ROW, "a", thing), NoNumber),
+    (lambda thing: less_than(thing, "a"), NoRow),
+    (lambda thing: less_than(ROW, thing), NoSign),
+    (lambda thing: found_behind(thing, "a"), NoRow),
+    (lambda thing: found_behind(ROW, thing), NoWord),
+    (lambda thing: is_longest(LIBRARY, thing), ()),
+    (lambda thing: class_stays(LIBRARY, thing, 0), NoEdit),
+    (lambda thing: class_stays(LIBRARY, ("come", "a"), thing), NoClass),
+    (lambda thing: turned_classes(LIBRARY, thing), NoEdit),
+    (Web, BadWeb),
+    (lambda thing: Web((thing,)), BadWeb),
+    (lambda thing: Web(WEB.rows[:1] + (thing,) + WEB.rows[2:]), BadWeb),
+    (lambda thing: is_web(LIBRARY, thing), ()),
+    (lambda thing: tells(thing, "ab"), NoMachine),
+    (lambda thing: tells(MACHINE[:1] + (thing,) + MACHINE[2:], "ab"), NoMachine),
+    (lambda thing: tells(MACHINE, thing), NoText),
+    (lambda thing: machine_fault(LIBRARY, thing), NoMachine),
+    (lambda thing: machine_fault(LIBRARY, (thing,)), NoMachine),
+    (lambda thing: machine_fault(LIBRARY, ((True, thing),)), NoMachine),
+    (lambda thing: Grower().put(thing), NoSign),
+    (lambda thing: Grower().state_of(thing), NoText),
+    (lambda thing: common_longest(LIBRARY, thing), NoNumber),
+    (lambda thing: least_alone(LIBRARY, thing), NoPlace),
+    (lambda thing: lacking(LIBRARY, thing), NoSigns),
+    (lambda thing: is_run(thing, (0, 2, 1)), NoText),
+    (lambda thing: is_run("aa", thing), ()),
+    (lambda thing: is_run("aa", (0, 2, thing)), ()),
+    (told_by, NoPhrases),
+    (lambda thing: told_by(("a", thing)), NoPhrases),
+    (lambda thing: is_phrasing(thing, ("a",)), NoText),
+    (lambda thing: is_phrasing("ab", thing), ()),
+    (lambda thing: is_phrasing("aa", ("a", thing)), ()),
+) + tuple(
+    (lambda thing, part=part: Web((WEB.rows[0][:part] + (thing,) + WEB.rows[0][part + 1:],) + WEB.rows[1:]), BadWeb)
+    for part in range(5)
+) + tuple(
+    (lambda thing, function=function: function(WEB, thing), NoWord) for function in (read_by, count_by, first_by)
+) + tuple(
+    (lambda thing, function=function: function(LIBRARY, thing), NoClass)
+    for function in (least_pieces, many_pieces, up, down, right_ties, left_ties)
+) + tuple(
+    (lambda thing, name=name: getattr(Grower(), name)(thing), NoState) for name in ("ties", "link", "ends")
+) + tuple((function, NoText) for function in (periods, borders, runs, phrasing, fewest_phrases))
 
 
 def outcome(call, errors, thing):
@@ -128,6 +190,13 @@ class OddThingsTest(unittest.TestCase):
             self.assertIs(type(is_edit(LIBRARY, thing)), bool)
             self.assertIs(type(is_order(LIBRARY, thing)), bool)
             self.assertIs(type(is_gap(LIBRARY, "aa", thing)), bool)
+            for flag in (is_row(thing), is_longest(LIBRARY, thing), is_web(LIBRARY, thing), is_run("abab", thing),
+                         is_phrasing("abab", thing)):
+                self.assertIs(type(flag), bool)
+        for flag in (is_row(ROW), is_longest(LIBRARY, "ab"), is_web(LIBRARY, WEB), is_run("abab", (0, 4, 2)),
+                     is_phrasing("abab", ("a", "b", (0, 2))), tells(MACHINE, "ab"),
+                     class_stays(LIBRARY, ("come", ""), 0)):
+            self.assertIs(flag, True)
         self.assertIs(type(stands(LIBRARY, "a", (0, 0))), bool)
 
 
@@ -147,9 +216,13 @@ class StayTest(unittest.TestCase):
             self.assertEqual(size(library), size(library))
             self.assertEqual(turned_about(library), turned_about(library))
             self.assertEqual(leading(library, LIBRARY), leading(library, LIBRARY))
-            for function in (endings, lengths, all_pieces):
+            for function in (endings, lengths, all_pieces, row_ahead, classes, longest_repeat, alone):
                 self.assertEqual(function(library), function(library))
-            for function in (places, span, gap, number_of):
+            for function in (up_tree, down_tree, web_of, machine_of, greatest_repeats,
+                             lambda other: texts_by(web_of(other))):
+                if size(library) < 100 or library.texts == ("ab" * 1000,):
+                    self.assertEqual(function(library), function(library))
+            for function in (places, span, gap, number_of, class_of, grown, lacking):
                 self.assertEqual(function(library, "ab"), function(library, "ab"))
             self.assertEqual(library.texts, texts)
 

@@ -18,6 +18,17 @@ FUNCTIONS = {
                 "kept_for": 3, "exchanged": 2, "staying": 2, "fewest_moves": 2},
     "asks": {"places": 2, "count": 2, "first_place": 2, "last_place": 2, "next_place": 3, "texts_with": 2, "span": 2,
              "gap": 2, "is_gap": 3, "all_pieces": 1, "many_long": 2, "piece_numbered": 2, "number_of": 2},
+    "rows": {"row_ahead": 1, "leads": 1, "is_row": 1, "told_back": 1, "many_ahead": 3, "less_than": 2,
+             "found_behind": 2},
+    "classes": {"classes": 1, "least_pieces": 2, "turned_classes": 2, "class_of": 2, "grown": 2, "many_pieces": 2,
+                "is_longest": 2, "class_stays": 3, "up": 2, "down": 2, "up_tree": 1, "down_tree": 1},
+    "webs": {"right_ties": 2, "left_ties": 2, "web_of": 1, "read_by": 2, "count_by": 2, "first_by": 2, "texts_by": 1,
+             "is_web": 2},
+    "machines": {"machine_of": 1, "tells": 2, "machine_fault": 2},
+    "repeats": {"longest_repeat": 1, "common_longest": 2, "least_alone": 2, "greatest_repeats": 1, "alone": 1,
+                "lacking": 2},
+    "runs": {"periods": 1, "borders": 1, "runs": 1, "is_run": 2, "is_phrasing": 2, "told_by": 1, "phrasing": 1,
+             "fewest_phrases": 1},
 }
 CLASSES = {
     "errors": {
@@ -30,6 +41,8 @@ CLASSES = {
     "libraries": {"Library": ("__init__", "__eq__")},
     "shelves": {"Shelf": ("__init__", "library", "order", "common_lengths", "rank_of", "span_of", "do", "back",
                           "again", "depth", "copy")},
+    "webs": {"Web": ("__init__", "__eq__")},
+    "growers": {"Grower": ("put", "text", "lots", "ends", "ties", "link", "state_of", "copy")},
 }
 
 
