@@ -28,7 +28,7 @@ def _is_part(kind, thing):
     return is_signs(thing)
 
 
-def _has_form(thing):
+def has_form(thing):
     """Whether a thing is a tuple of a word of an edit and parts of its kinds."""
     if not isinstance(thing, tuple) or len(thing) == 0:
         return False
@@ -118,7 +118,7 @@ MAKERS = {
 
 def _library_behind(library, thing):
     """The Library that an edit makes of this one, None if a thing is no edit of it."""
-    if not _has_form(thing):
+    if not has_form(thing):
         return None
     maker = MAKERS[thing[0]]
     texts = maker(library.texts, thing)

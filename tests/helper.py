@@ -3,9 +3,12 @@
 import random
 from itertools import product
 
+from everypiece.desks import Desk
+from everypiece.disks import Disk
 from everypiece.errors import BadEdits, NoWord, PieceError
 from everypiece.growers import Grower
 from everypiece.libraries import Library
+from everypiece.saves import Vault
 from everypiece.shelves import Shelf
 from everypiece.webs import Web
 
@@ -34,6 +37,7 @@ def odd_things():
         Library(()), Library(("ab", "")), (Library(("a",)), 0), (0, Library(("a",))), [Library(())],
         Shelf(Library(("ab",))), (Shelf(Library(())), 0), Shelf, Web(()), Web((("a", 1, (0, 0), (), ()),)), Web,
         (Web(()), 0), (0, Web(())), Grower(), (Grower(),), Grower, ("a", 1, (0, 0), (), ()), (("a", Web(())),),
+        Disk(), (Disk(),), Disk, Vault(Disk()), (Vault(Disk()),), [Vault(Disk())], Vault, Desk(), (Desk(), 0), Desk,
         nested(40, tuple), nested(40, list), nested(40, dict), tuple([0] * 19999), list(range(19999)),
         (nested(39, list), 0), (0, nested(39, tuple)), (10 ** 19, 0), (0, 10 ** 19),
     ]
@@ -98,6 +102,24 @@ def random_edit(chance, library):
         edit = (word,) + parts[word]
         if (new or word not in ("put", "change")) and plain_edit(library, edit) is not None:
             return edit
+
+
+def random_part(chance, signs):
+    """A part of a pattern that is no gap, of these signs."""
+    lot = sorted(set(chance.choice(signs) for _ in range(chance.choice([1, 2, 3, 40]))))[:20]
+    return chance.choice([("sign", chance.choice(signs)), ("any",), ("lot", "".join(lot))])
+
+
+def random_pattern(chance, signs, many, gaps=(0, 0, 1, 2, 10, 20)):
+    """A pattern of so many parts, of these signs, with gaps of such bounds, if any."""
+    parts = []
+    while len(parts) < many:
+        last = len(parts) in (0, many - 1) or parts[-1][0] == "gap" or not gaps
+        if last or chance.random() < 0.6:
+            parts.append(random_part(chance, signs))
+        else:
+            parts.append(("gap",) + tuple(sorted(chance.choice(gaps) for _ in range(2))))
+    return tuple(parts)
 
 
 def place_list(library):

@@ -1,16 +1,20 @@
-"""The examples of the document that have landed."""
+"""The examples of the document, e01 to e08."""
 
 import unittest
 
 from everypiece.asks import all_pieces, gap, piece_numbered, span
 from everypiece.blocks import coins, groups, levels
 from everypiece.classes import class_of, classes, grown, least_pieces
+from everypiece.disks import record
 from everypiece.edits import edited, leading_back, place_behind
 from everypiece.endings import endings, lengths
 from everypiece.libraries import Library
+from everypiece.patterns import fits, pattern_text
 from everypiece.repeats import alone, lacking, longest_repeat
 from everypiece.rows import row_ahead
 from everypiece.runs import fewest_phrases, periods, runs
+from everypiece.saves import edit_text
+from everypiece.tongues import asked
 
 
 class ExamplesTest(unittest.TestCase):
@@ -57,6 +61,16 @@ class ExamplesTest(unittest.TestCase):
         self.assertEqual(periods("abab"), (2, 4))
         self.assertEqual(runs("abab"), [(0, 4, 2)])
         self.assertEqual(fewest_phrases("abab"), 3)
+
+    def test_e07(self):
+        pattern = (("sign", "a"), ("any",), ("gap", 0, 2), ("lot", "ab"))
+        self.assertEqual(pattern_text(pattern), "a?{0,2}[ab]")
+        self.assertEqual(fits(self.lib, (("sign", "a"), ("any",))), ((0, 0, 2), (0, 2, 2)))
+
+    def test_e08(self):
+        self.assertEqual(record("ab"), "2:ab")
+        self.assertEqual(edit_text(("put", 0, 1, "x")), "put 0 1 x")
+        self.assertEqual(asked(self.lib, "count ab"), "2")
 
 
 if __name__ == "__main__":

@@ -1,4 +1,4 @@
-"""0.2 to 0.5: what holds for all calls that have landed."""
+"""0.2 to 0.5: what holds for all calls of parts 1 to 3, and, over the calls of another test, for others."""
 
 import copy
 import unittest
@@ -154,20 +154,21 @@ def outcome(call, errors, thing):
 
 
 class OddThingsTest(unittest.TestCase):
+    calls = CALLS
 
     def test_no_other_error_is_raised_because_of_what_a_thing_is(self):
-        for call, errors in CALLS:
+        for call, errors in self.calls:
             for thing in odd_things():
                 outcome(call, errors, thing)
                 self.assertEqual(LIBRARY.texts, TEXTS)
 
     def test_equal_calls_give_equal_answers(self):
-        for call, errors in CALLS:
+        for call, errors in self.calls:
             for thing in odd_things():
                 self.assertEqual(outcome(call, errors, thing), outcome(call, errors, thing))
 
     def test_arguments_are_not_changed(self):
-        for call, errors in CALLS:
+        for call, errors in self.calls:
             for thing in ([], [0, 0], ["go"], [("come", ""), ["go"]], {"a": [1]}, ("put", [0], 0, "x"), ([0], {1: 2}),
                           nested(40, list), list(range(19999))):
                 before = copy.deepcopy(thing)
@@ -175,15 +176,18 @@ class OddThingsTest(unittest.TestCase):
                 self.assertEqual(thing, before)
 
     def test_iterators_are_not_used_up(self):
-        for call, errors in CALLS:
+        for call, errors in self.calls:
             thing = iter([0, 1])
             outcome(call, errors, thing)
             self.assertEqual(list(thing), [0, 1])
 
     def test_things_may_be_nested_deep(self):
-        for call, errors in CALLS:
+        for call, errors in self.calls:
             for kind in (list, tuple, dict):
                 outcome(call, errors, nested(40, kind))
+
+
+class JudgingTest(unittest.TestCase):
 
     def test_judging_functions_return_flags(self):
         for thing in odd_things() + [("come", "")]:

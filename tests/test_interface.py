@@ -29,6 +29,13 @@ FUNCTIONS = {
                 "lacking": 2},
     "runs": {"periods": 1, "borders": 1, "runs": 1, "is_run": 2, "is_phrasing": 2, "told_by": 1, "phrasing": 1,
              "fewest_phrases": 1},
+    "patterns": {"is_pattern": 1, "is_fit": 3, "pattern_text": 1, "read_pattern": 1, "fits": 2, "fitting_pieces": 2,
+                 "longest_fits": 2, "apart_fits": 2},
+    "searches": {"searched": 2, "near_by_stretches": 3, "near": 3, "with_holes": 2, "stretches": 2, "nearest": 2},
+    "disks": {"record": 1, "read_record": 1},
+    "saves": {"edit_text": 1, "read_edit": 1, "told_library": 1},
+    "pictures": {"drawn_blocks": 1, "drawn_fits": 2, "drawn_edit": 2},
+    "tongues": {"asked": 2},
 }
 CLASSES = {
     "errors": {
@@ -43,6 +50,9 @@ CLASSES = {
                           "again", "depth", "copy")},
     "webs": {"Web": ("__init__", "__eq__")},
     "growers": {"Grower": ("put", "text", "lots", "ends", "ties", "link", "state_of", "copy")},
+    "disks": {"Disk": ("__init__", "write", "sync", "synced", "lines", "cut", "drop", "copy")},
+    "saves": {"Vault": ("__init__", "library", "edit", "sync", "save", "told_names", "moved")},
+    "desks": {"Desk": ("__init__", "tell")},
 }
 
 
