@@ -101,7 +101,7 @@ class Desk:
         self._keep(name, disk, Vault(disk))
         return len(disk.lines())
 
-    def _done(self, line):
+    def _do(self, line):
         """Does a line that is about a disk and its Vault alone; returns a number."""
         word, name = line[:2]
         if word == "edit":
@@ -118,7 +118,7 @@ class Desk:
 
     def tell(self, line):
         """Does what a line says; returns what it tells."""
-        told = read_line(line, FORMS)
+        told = read_line(line, dict(FORMS))
         if told is None:
             raise NoLine()
         word, name = told[:2]
@@ -129,4 +129,4 @@ class Desk:
             self._keep(told[-1], disk, Vault(disk) if word == "new" else self._vaults[name].moved(disk))
             return "ok"
         answer = _asked_of(self._vaults[name].library(), told)
-        return str(self._done(told)) if answer is None else answer
+        return str(self._do(told)) if answer is None else answer

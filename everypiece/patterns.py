@@ -181,8 +181,6 @@ def _ends(pattern, bits, at):
             for _ in range(part[2] - part[1]):
                 begins = begins << 1
                 ends = ends | begins
-        if ends == 0:
-            break
     return ends
 
 

@@ -36,7 +36,7 @@ def edit_text(edit):
 
 def read_edit(text):
     """The tuple of which this is the text, None for any other thing."""
-    edit = read_line(text, FORMS)
+    edit = read_line(text, dict(FORMS))
     return edit if _has_text(edit) else None
 
 
@@ -71,11 +71,8 @@ def _key_library(contents, names):
     """The Library that a key line of these contents tells, None for no key line."""
     if not contents.startswith(KEY):
         return None
-    parts = _read_parts(contents[len(KEY):], names)
-    if None in parts:
-        return None
     try:
-        return Library(tuple(parts))
+        return Library(tuple(_read_parts(contents[len(KEY):], names)))
     except BadLibrary:
         return None
 

@@ -16,7 +16,7 @@ def _ranges_within(signs, low, high, part):
         sign = signs[number]
         if sign == "" or not may_be(part, sign):
             continue
-        if found and found[-1][1] == number and signs[number - 1] == sign:
+        if found and signs[number - 1] == sign:
             found[-1] = (found[-1][0], number + 1)
         else:
             found.append((number, number + 1))

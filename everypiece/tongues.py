@@ -108,7 +108,7 @@ def _of_all(library, word):
 
 def asked(library, line):
     """What a line asks of a library."""
-    ask = read_line(line, FORMS)
+    ask = read_line(line, dict(FORMS))
     if ask is None:
         raise NoAsk()
     word = ask[0]

@@ -240,6 +240,34 @@ class LanguageTest(unittest.TestCase):
                 if isinstance(node, ast.Call) and isinstance(node.func, ast.Name) and node.func.id in AT_ONCE:
                     self.assertIn(node, fine, f"{name}:{node.lineno}")
 
+    def test_lists_and_dicts_at_module_level_are_only_read(self):
+        tables = [node.targets[0].id for tree in self.trees.values() for node in tree.body
+                  if isinstance(node, ast.Assign) and isinstance(node.value, (ast.List, ast.Dict))]
+        self.assertIn("FORMS", tables)
+        for name, tree in self.trees.items():
+            fine = []
+            for node in ast.walk(tree):
+                if isinstance(node, ast.Subscript) and isinstance(node.ctx, ast.Load):
+                    fine.append(node.value)
+                if isinstance(node, ast.Compare):
+                    fine += node.comparators
+                if isinstance(node, (ast.For, ast.comprehension)):
+                    fine.append(node.iter)
+                if isinstance(node, ast.Attribute) and node.attr in ("get", "items", "keys", "values", "index", "count"):
+                    fine.append(node.value)
+                if isinstance(node, ast.Call) and isinstance(node.func, ast.Name):
+                    fine += node.args if node.func.id in ("dict", "list", "len", "sorted", "max", "min", "sum") else []
+            for node in ast.walk(tree):
+                if isinstance(node, ast.Name) and isinstance(node.ctx, ast.Load) and node.id in tables:
+                    self.assertIn(node, fine, f"{name}:{node.lineno}")
+
+    def test_no_name_is_a_method_and_an_attribute(self):
+        stored = [node.attr for _, node in self.nodes(ast.Attribute) if isinstance(node.ctx, ast.Store)]
+        for where, node in self.nodes(ast.ClassDef):
+            for part in node.body:
+                if isinstance(part, ast.FunctionDef):
+                    self.assertNotIn(part.name, stored, where)
+
     def test_errors(self):
         own = [node.name for node in self.trees["errors.py"].body if isinstance(node, ast.ClassDef)]
         for where, node in self.nodes(ast.ExceptHandler):
