@@ -182,7 +182,8 @@ class Vault:
         """Writes a key save, behind which no line waits; returns how many block lines were written."""
         many = 0
         for text in self._library.texts:
-            many += sum([self._save_block(parts) for parts in _blocks_made(text)])
+            for parts in _blocks_made(text):
+                many += self._save_block(parts)
         self._disk.write(record(KEY + "".join([" " + self._part(text) for text in self._library.texts])))
         self._disk.sync()
         return many
